@@ -1,0 +1,1 @@
+"""Neverhit: halls of mirrors, and which places see which over all directions at once."""

@@ -1,0 +1,72 @@
+"""The interface: all names, in their files and classes, with the arguments that the document tells."""
+
+import importlib
+import inspect
+import unittest
+
+FUNCTIONS = {
+    "checks": {"is_integer": "value", "is_within": "value least most", "is_point": "value", "is_way": "value"},
+    "papers": {"fixed": "value"},
+    "rooms": {"open_sides": "room", "walls_of": "room"},
+    "places": {
+        "fan_of": "room square tip", "is_corner": "room square tip", "points_in": "room", "places_of": "room",
+        "is_place": "room value", "squares_at": "room point",
+    },
+    "changed": {
+        "moved": "room by", "turned": "room quarters", "mirrored": "room", "finer": "room times",
+        "shut_up": "room side", "opened": "room side", "moved_point": "room by point",
+        "turned_point": "room quarters point", "mirrored_point": "room point", "finer_point": "room times point",
+    },
+    "rays": {
+        "track_of": "room square place way", "met_first": "room square place way posts",
+        "bounces_of": "room square place way steps", "stand_after": "room square place way steps",
+        "turned_back": "room square place way steps", "length_of": "way steps",
+    },
+    "sheets": {
+        "sheet_of": "room", "marks_of": "room point", "point_at": "room mark", "onward": "sheet fine mark way",
+        "square_point": "room point",
+    },
+}
+CLASSES = {
+    "papers": {"Paper": "word *parts", "Denial": "word *parts"},
+    "rooms": {"Room": "squares shut=() fine=1"},
+    "rays": {"Track": "points end"},
+    "sheets": {"Sheet": "right up corners"},
+}
+METHODS = {
+    "Paper": ("__init__", "__bool__", "__eq__"), "Denial": ("__init__", "__bool__", "__eq__"),
+    "Room": ("__init__", "__eq__", "__str__", "read"), "Sheet": ("__init__", "__eq__", "__str__", "read"),
+    "Track": ("__init__",),
+}
+
+
+def parameters_of(function):
+    """The parameters of a function as one text."""
+    return " ".join(str(parameter) for parameter in inspect.signature(function).parameters.values())
+
+
+class Interface(unittest.TestCase):
+
+    def test_functions(self):
+        for file, functions in FUNCTIONS.items():
+            module = importlib.import_module("neverhit." + file)
+            for name, parameters in functions.items():
+                with self.subTest(file=file, name=name):
+                    function = getattr(module, name)
+                    self.assertEqual(module.__name__, function.__module__)
+                    self.assertEqual(parameters, parameters_of(function))
+
+    def test_classes(self):
+        for file, classes in CLASSES.items():
+            module = importlib.import_module("neverhit." + file)
+            for name, parameters in classes.items():
+                with self.subTest(file=file, name=name):
+                    made = getattr(module, name)
+                    self.assertEqual(module.__name__, made.__module__)
+                    self.assertEqual(parameters, parameters_of(made))
+                    for method in METHODS[name]:
+                        self.assertIn(method, vars(made))
+
+
+if __name__ == "__main__":
+    unittest.main()
