@@ -37,12 +37,11 @@ def track_of(room, square, place, way):
 def met_first(room, square, place, way, posts):
     """The step and the point at which a ray is first at one of some posts; None if it never is."""
     need_ray(room, square, place, way)
-    posts = posts_told(room, posts)
-    need_having(room, square, place)
+    wanted = posts_told(room, posts)
     track = track_of(room, square, place, way)
     points = track.points[:-1] if track.end == "corner" else track.points
     for step, point in enumerate(points):
-        if step > 0 and point in posts:
+        if step > 0 and point in wanted:
             return (step, point)
     return None
 
@@ -51,14 +50,13 @@ def bounces_of(room, square, place, way, steps):
     """The letters of the walls that throw a ray back in turn, up to so many steps."""
     _need_steps_of(room, square, place, way, steps)
     sheet, mark, sizes = _beginning(room, square, place, way)
-    at_a_tip = len([size for size in sizes if size > 0])
     letters = []
     for _ in range(steps):
         passed = passed_by(sheet, room.fine, mark, sizes)
         mark = mark_behind(room.fine, mark, sizes, passed)
         if is_end(sheet, mark):
-            # the lines that are crossed at the corner itself throw nothing back
-            letters.append(_letters_of(passed[:-at_a_tip]))
+            # the two lines that meet at the corner throw nothing back; a straight way crosses no others by a step
+            letters.append(_letters_of(passed[:-2]))
             break
         letters.append(_letters_of(passed))
     return "".join(letters)

@@ -132,6 +132,8 @@ class Equal(Checks):
         for other in (Room(BLOCK, [SIDE], 3), Room(BLOCK, [], 2), Room(BLOCK, [((0, 0), (1, 0))], 2), Room(ELL, [], 2)):
             self.assertIs(False, room == other)
             self.assertIs(True, room != other)
+        self.assertIs(False, Room(ELL) == Room(BLOCK))
+        self.assertIs(False, Room(ROW[:3]) == Room([(n, 1) for n in range(3)]))
 
     def test_equal_to_no_other_value(self):
         room = Room([(0, 0)])

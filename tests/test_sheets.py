@@ -132,6 +132,9 @@ class Making(Checks):
         for other in (Sheet([1, 0], [1, 0], [0, 0]), Sheet([0, 1], [1, 0], [0, 0]), Sheet([1, 0], [0, 1], [0, 1])):
             self.assertIs(False, sheet == other)
             self.assertIs(True, sheet != other)
+        row, alone = [1, 2, 0], [0, 0, 0]
+        self.assertIs(False, Sheet(row, [0, 1, 2], alone) == Sheet([2, 0, 1], [0, 1, 2], alone))
+        self.assertIs(False, Sheet([0, 1, 2], row, alone) == Sheet([0, 1, 2], [2, 0, 1], alone))
         for value in ODD + (AlwaysEqual(), str(sheet), ((1, 0), (0, 1), (0, 0))):
             self.assertIs(False, sheet == value)
 
@@ -175,6 +178,7 @@ class Texts(Checks):
         self.assert_bad_text(5, Sheet.read, "right 1 0 / up 2 1 / corners 0 0")
         self.assert_bad_text(6, Sheet.read, "right 1 0 / up 0 2 / corners 0 0")
         self.assert_bad_text(10, Sheet.read, "right 1 0 / up 0 1 / corners 0 2")
+        self.assert_bad_text(9, Sheet.read, "right 1 0 / up 0 1 / corners 2 0")
         self.assert_bad_text(1, Sheet.read, "right 400 / up 0 / corners 0")
         self.assert_bad_text(7, Sheet.read, "right 399 / up 0 / corners 0")
 
