@@ -3,9 +3,10 @@
 
 def fixed(value):
     """Any value with tuples in the place of lists, all the way in; other values stay."""
-    if isinstance(value, (list, tuple)):
-        return tuple([fixed(item) for item in value])
-    return value
+    if not isinstance(value, (list, tuple)):
+        return value
+    # papers of many books are long: what is no list is not asked by a call of its own
+    return tuple([fixed(item) if isinstance(item, (list, tuple)) else item for item in value])
 
 
 def _are_equal(one, other):

@@ -1,7 +1,7 @@
 """Fans, corners, points and places of rooms."""
 
 from neverhit.checks import is_point, is_row, is_within
-from neverhit.errors import BadNumber, BadPlace, BadPoint
+from neverhit.errors import BadNumber, BadPlace, BadPoint, Misfit
 from neverhit.rooms import need_room
 
 MOST_POSTS = 60
@@ -38,6 +38,30 @@ def posts_told(room, posts):
     if len(points) < len(posts):
         raise BadPlace("posts")
     return tuple(points)
+
+
+def need_seeing(room, lamp, wish):
+    """Nothing, if the lamp and the wish are places of the room."""
+    need_room(room, "room")
+    need_place(room, lamp, "lamp")
+    need_place(room, wish, "wish")
+
+
+def need_apart(lamp, wish, posts):
+    """Nothing, if lamp and wish are unlike places, and none of the posts is one of them."""
+    if tuple(lamp) == tuple(wish):
+        raise Misfit("wish")
+    if tuple(lamp) in posts or tuple(wish) in posts:
+        raise Misfit("posts")
+
+
+def has_corner(room, square, point):
+    """Whether a point of a square is a corner from it."""
+    i, j = room.squares[square]
+    x, y = point[0] - i * room.fine, point[1] - j * room.fine
+    if x not in (0, room.fine) or y not in (0, room.fine):
+        return False
+    return is_corner(room, square, (1 if x > 0 else 0) + (2 if y > 0 else 0))
 
 
 def fan_of(room, square, tip):
@@ -77,7 +101,7 @@ def is_place(room, value):
     if not is_point(value):
         return False
     owners = _owners(room, value)
-    return bool(owners) and not any([_has_corner(room, square, value) for square in owners])
+    return bool(owners) and not any([has_corner(room, square, value) for square in owners])
 
 
 def squares_at(room, point):
@@ -123,12 +147,3 @@ def _fan_at(room, square, tip):
         fan.extend(fresh)
         at += 1
     return fan
-
-
-def _has_corner(room, square, point):
-    """Whether a point of a square is a corner from it."""
-    i, j = room.squares[square]
-    x, y = point[0] - i * room.fine, point[1] - j * room.fine
-    if x not in (0, room.fine) or y not in (0, room.fine):
-        return False
-    return is_corner(room, square, (1 if x > 0 else 0) + (2 if y > 0 else 0))

@@ -22,7 +22,7 @@ def track_of(room, square, place, way):
     """The track of a ray."""
     need_ray(room, square, place, way)
     need_having(room, square, place)
-    sheet, first, sizes = _beginning(room, square, place, way)
+    sheet, first, sizes = beginning_of(room, square, place, way)
     points = [point_seen(room, first)]
     mark = _next_mark(sheet, room.fine, first, sizes)
     while mark != first and not is_end(sheet, mark):
@@ -49,7 +49,7 @@ def met_first(room, square, place, way, posts):
 def bounces_of(room, square, place, way, steps):
     """The letters of the walls that throw a ray back in turn, up to so many steps."""
     _need_steps_of(room, square, place, way, steps)
-    sheet, mark, sizes = _beginning(room, square, place, way)
+    sheet, mark, sizes = beginning_of(room, square, place, way)
     letters = []
     for _ in range(steps):
         passed = passed_by(sheet, room.fine, mark, sizes)
@@ -65,14 +65,14 @@ def bounces_of(room, square, place, way, steps):
 def stand_after(room, square, place, way, steps):
     """How a ray stands behind so many steps: into which square it is about to go, where, by which way."""
     _need_steps_of(room, square, place, way, steps)
-    sheet, first, sizes = _beginning(room, square, place, way)
+    sheet, first, sizes = beginning_of(room, square, place, way)
     return _stand_of(room, _mark_after(sheet, room.fine, first, sizes, steps), sizes)
 
 
 def turned_back(room, square, place, way, steps):
     """How the opposite ray stands that begins behind so many steps, and goes back."""
     _need_steps_of(room, square, place, way, steps)
-    sheet, first, sizes = _beginning(room, square, place, way)
+    sheet, first, sizes = beginning_of(room, square, place, way)
     mark = _mark_after(sheet, room.fine, first, sizes, steps)
     return _stand_of(room, _mark_turned(sheet, room.fine, mark, sizes), sizes)
 
@@ -101,6 +101,14 @@ def need_having(room, square, place):
         raise Misfit("place")
 
 
+def beginning_of(room, square, place, way):
+    """The sheet on which a ray goes, the mark at which it begins there, and its way's numbers without signs."""
+    sheet = sheet_of(room)
+    # in this copy the way leads right and up; a ray that goes straight along stays right of, or above, its line
+    copy = (1 if way[0] < 0 else 0) + (2 if way[1] < 0 else 0)
+    return sheet, mark_seen(room, sheet, square, copy, place), (abs(way[0]), abs(way[1]))
+
+
 def _need_steps(steps):
     """Nothing, if this is a number of steps."""
     if not is_within(steps, 0, MOST_STEPS):
@@ -112,14 +120,6 @@ def _need_steps_of(room, square, place, way, steps):
     need_ray(room, square, place, way)
     _need_steps(steps)
     need_having(room, square, place)
-
-
-def _beginning(room, square, place, way):
-    """The sheet on which a ray goes, the mark at which it begins there, and its way's numbers without signs."""
-    sheet = sheet_of(room)
-    # in this copy the way leads right and up; a ray that goes straight along stays right of, or above, its line
-    copy = (1 if way[0] < 0 else 0) + (2 if way[1] < 0 else 0)
-    return sheet, mark_seen(room, sheet, square, copy, place), (abs(way[0]), abs(way[1]))
 
 
 def _next_mark(sheet, fine, mark, sizes):

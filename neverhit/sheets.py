@@ -79,10 +79,7 @@ def marks_of(room, point):
     """The marks of a point of the room, ascending, each once."""
     need_room(room, "room")
     need_point(room, point)
-    sheet = sheet_of(room)
-    owners = squares_at(room, point)
-    marks = [mark_seen(room, sheet, square, copy, point) for square in owners for copy in range(4)]
-    return tuple(sorted(set(marks)))
+    return marks_on(room, sheet_of(room), point)
 
 
 def point_at(room, mark):
@@ -95,8 +92,7 @@ def point_at(room, mark):
 def onward(sheet, fine, mark, way):
     """The mark to which one comes from a mark by a way, straight; None at a corner."""
     need_sheet(sheet, "sheet")
-    if not is_within(fine, 1, MOST_FINE):
-        raise BadNumber("fine")
+    need_fine(fine)
     need_mark(sheet.many, fine, mark)
     if not is_way(way) or not all([is_within(number, 0, MOST_ONWARD) for number in way]):
         raise BadWay("way")
@@ -117,12 +113,30 @@ def need_sheet(sheet, part):
         raise BadSheet(part)
 
 
+def need_fine(fine):
+    """Nothing, if this is a fine."""
+    if not is_within(fine, 1, MOST_FINE):
+        raise BadNumber("fine")
+
+
+def is_mark(many, fine, value):
+    """Whether a value is a mark of a sheet of so many squares with this fine."""
+    if not (is_row(value) and len(value) == 3 and is_within(value[0], 0, many - 1)):
+        return False
+    return is_within(value[1], 0, fine - 1) and is_within(value[2], 0, fine - 1)
+
+
 def need_mark(many, fine, mark):
     """Nothing, if this is a mark of a sheet of so many squares with this fine."""
-    if not (is_row(mark) and len(mark) == 3 and is_within(mark[0], 0, many - 1)):
+    if not is_mark(many, fine, mark):
         raise BadPoint("mark")
-    if not (is_within(mark[1], 0, fine - 1) and is_within(mark[2], 0, fine - 1)):
-        raise BadPoint("mark")
+
+
+def marks_on(room, sheet, point):
+    """The marks of a point of the room on its sheet, ascending, each once."""
+    owners = squares_at(room, point)
+    marks = [mark_seen(room, sheet, square, copy, point) for square in owners for copy in range(4)]
+    return tuple(sorted(set(marks)))
 
 
 def mark_seen(room, sheet, square, copy, point):

@@ -4,6 +4,7 @@ import random
 import unittest
 
 from neverhit.rooms import Room
+from neverhit.sheets import Sheet
 
 
 class OwnList(list):
@@ -117,3 +118,33 @@ def hang_together(squares, shut):
             gone = lot[other]
             lot = {square: lot[one] if lot[square] == gone else lot[square] for square in squares}
     return len(set(lot.values())) == 1
+
+
+def turning(many):
+    """A sheet of one row that comes round."""
+    return Sheet([(n + 1) % many for n in range(many)], list(range(many)), [0] * many)
+
+
+def grown_sheets(seed, many):
+    """So many sheets of any kind, with as few corners as can be, and some more."""
+    chance = random.Random(seed)
+    sheets = []
+    while len(sheets) < many:
+        count = chance.randint(1, 7)
+        right, up = chance.sample(range(count), count), chance.sample(range(count), count)
+        corners = [int(chance.random() < 0.15) for _ in range(count)]
+        for n in range(count):
+            if up[right[n]] != right[up[n]]:
+                corners[up[right[n]]] = corners[right[up[n]]] = 1
+        if reached(right, up) == set(range(count)):
+            sheets.append(Sheet(right, up, corners))
+    return sheets
+
+
+def reached(right, up):
+    """The squares to which one comes from the square 0."""
+    found, old = {0}, set()
+    while found != old:
+        old = found
+        found = old | {right[n] for n in old} | {up[n] for n in old}
+    return found

@@ -182,3 +182,78 @@ def track(room, number, place, way, most=10 ** 6):
             return (tuple(points), "round")
         points.append(ray.point)
     raise AssertionError("it neither ends nor comes round")
+
+
+def comes_by(room, number, place, way, wish, posts, most=2000):
+    """The numbers of steps, up to most, by which a ray comes to the wish past the posts."""
+    ray = Ray(room, number, place, way)
+    begin = ray.stand()
+    found = []
+    for step in range(1, most + 1):
+        ray.step()
+        if ray.ended or ray.stand() == begin or ray.point in posts:
+            break
+        if ray.point == wish:
+            found.append(step)
+    return found
+
+
+def leant_rows(right, up, letter):
+    """The rows of a sheet that is leant once, by the words of the document."""
+    if letter == "a":
+        return list(right), [up[right[n]] for n in range(len(right))]
+    return [right[up[n]] for n in range(len(up))], list(up)
+
+
+def leant_mark(right, up, fine, mark, letter):
+    """Where a mark is led if the sheet is leant once, part by part."""
+    number, x, y = mark
+    for _ in range(y if letter == "a" else x):
+        if letter == "a":
+            number, x = (list(right).index(number), fine - 1) if x == 0 else (number, x - 1)
+        else:
+            number, y = (list(up).index(number), fine - 1) if y == 0 else (number, y - 1)
+    return (number, x, y)
+
+
+def key(right, up, corners, lamps, wishes, posts):
+    """The key of a sheet with marks, square by square."""
+    old = [lamps[0][0]]
+    at = 0
+    while at < len(old):
+        for other in (right[old[at]], up[old[at]]):
+            if other not in old:
+                old.append(other)
+        at += 1
+    new = {number: at for at, number in enumerate(old)}
+    rows = [tuple(new[row[number]] for number in old) for row in (right, up)]
+    marks = [[(new[n], x, y) for n, x, y in lot] for lot in (lamps, wishes, posts)]
+    return (*rows, tuple(corners[number] for number in old), tuple(marks[0]), tuple(sorted(marks[1])),
+            tuple(sorted(marks[2])))
+
+
+def leant_key(told, fine, letter):
+    """The key of the book of a key that is leant once."""
+    right, up, corners, *lots = told
+    rows = leant_rows(right, up, letter)
+    marks = [[leant_mark(right, up, fine, mark, letter) for mark in lot] for lot in lots]
+    return key(*rows, corners, *marks)
+
+
+def first_thing(told, fine, mark, side):
+    """What comes first to one side of a mark of the book of a key, and how many parts away."""
+    right, up, corners, _, wishes, posts = told
+    number, x, y = mark
+    parts = 0
+    while True:
+        parts += 1
+        if side == "east":
+            number, x = (right[number], 0) if x + 1 == fine else (number, x + 1)
+        else:
+            number, y = (up[number], 0) if y + 1 == fine else (number, y + 1)
+        here = (number, x, y)
+        if (x, y) == (0, 0) and corners[number] == 1:
+            return ("corner", parts)
+        for word, marks in (("post", posts), ("wish", wishes), ("round", (mark,))):
+            if here in marks:
+                return (word, parts)

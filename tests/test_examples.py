@@ -3,7 +3,8 @@
 import pathlib
 import unittest
 
-MODULES = ("checks", "papers", "rooms", "places", "changed", "rays", "sheets", "errors")
+MODULES = ("checks", "papers", "rooms", "places", "changed", "rays", "sheets", "books", "bands", "judged", "check_judged",
+           "guards", "errors")
 
 
 def names_of_all():
@@ -48,7 +49,8 @@ class Examples(unittest.TestCase):
         for section, _, _ in examples():
             counts[section] = counts.get(section, 0) + 1
         self.assertEqual(
-            {"checks": 2, "papers": 2, "rooms": 10, "places": 7, "changed": 7, "rays": 11, "sheets": 11}, counts)
+            {"checks": 2, "papers": 2, "rooms": 10, "places": 7, "changed": 7, "rays": 11, "sheets": 11, "books": 13,
+             "bands": 7, "judged": 7, "check_judged": 2, "guards": 8}, counts)
 
 
 if __name__ == "__main__":

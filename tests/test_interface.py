@@ -26,17 +26,35 @@ FUNCTIONS = {
         "sheet_of": "room", "marks_of": "room point", "point_at": "room mark", "onward": "sheet fine mark way",
         "square_point": "room point",
     },
+    "books": {
+        "lean_sheet": "sheet letter times=1", "lean_mark": "sheet fine mark letter times=1", "word_of": "way",
+        "ways_of": "word", "book_of": "room lamp wish posts", "leant": "book letter times=1",
+        "first_on": "book lamp side", "books_from": "book",
+    },
+    "judged": {"judged": "room lamp wish posts=()"},
+    "check_judged": {"shows_judged": "room lamp wish posts value"},
+    "guards": {
+        "sixteen": "room lamp wish", "guards_of": "room lamp wish", "stops_all": "room lamp wish posts",
+        "needless": "room lamp wish posts", "thinned": "room lamp wish posts", "shots_past": "room lamp wish posts",
+    },
+    "bands": {
+        "bands_of": "room way", "end_of": "room square place way", "met_by": "room square place way posts",
+    },
 }
 CLASSES = {
     "papers": {"Paper": "word *parts", "Denial": "word *parts"},
     "rooms": {"Room": "squares shut=() fine=1"},
     "rays": {"Track": "points end"},
     "sheets": {"Sheet": "right up corners"},
+    "books": {"Book": "sheet fine lamps wishes posts"},
+    "judged": {"Lit": "square way steps", "Dark": "books"},
+    "guards": {"Thin": "posts"},
 }
 METHODS = {
     "Paper": ("__init__", "__bool__", "__eq__"), "Denial": ("__init__", "__bool__", "__eq__"),
     "Room": ("__init__", "__eq__", "__str__", "read"), "Sheet": ("__init__", "__eq__", "__str__", "read"),
-    "Track": ("__init__",),
+    "Track": ("__init__",), "Book": ("__init__", "__eq__"), "Lit": ("__init__",), "Dark": ("__init__",),
+    "Thin": ("__init__",),
 }
 
 

@@ -8,6 +8,7 @@ from math import gcd
 import oracle
 from common import (
     BENT, BLOCK, ELL, GATES, NO_INTEGERS, NO_POINTS, ODD, RING, ROW, SLAB, AlwaysEqual, Checks, OwnList, grown_rooms,
+    grown_sheets, reached, turning,
 )
 
 from neverhit.errors import BadNumber, BadPoint, BadRoom, BadSheet, BadWay, Misfit
@@ -22,36 +23,6 @@ NO_MARKS = ODD + (
     5, [], (), (0,), (0, 0), (0, 0, 0, 0), (8, 0, 0), (-1, 0, 0), (0, 2, 0), (0, 0, 2), (0, -1, 0), (0, 0, -1),
     (0, True, 0), (False, 0, 0), (0, 0, 1.0), (0, 0, "1"), ("0", 0, 0), (0, None, 0), ((0, 0), 0, 0), (10 ** 50, 0, 0),
 )
-
-
-def turning(many):
-    """A sheet of one row that comes round."""
-    return Sheet([(n + 1) % many for n in range(many)], list(range(many)), [0] * many)
-
-
-def grown_sheets(seed, many):
-    """So many sheets of any kind, with as few corners as can be, and some more."""
-    chance = random.Random(seed)
-    sheets = []
-    while len(sheets) < many:
-        count = chance.randint(1, 7)
-        right, up = chance.sample(range(count), count), chance.sample(range(count), count)
-        corners = [int(chance.random() < 0.15) for _ in range(count)]
-        for n in range(count):
-            if up[right[n]] != right[up[n]]:
-                corners[up[right[n]]] = corners[right[up[n]]] = 1
-        if reached(right, up) == set(range(count)):
-            sheets.append(Sheet(right, up, corners))
-    return sheets
-
-
-def reached(right, up):
-    """The squares to which one comes from the square 0."""
-    found, old = {0}, set()
-    while found != old:
-        old = found
-        found = old | {right[n] for n in old} | {up[n] for n in old}
-    return found
 
 
 def by_lines(sheet, fine, mark, way):

@@ -8,8 +8,13 @@ import unittest
 
 from common import BLOCK, RING, ROW, SLAB
 
-from neverhit.changed import finer, mirrored, moved, shut_up, turned, turned_point
+from neverhit.bands import bands_of, end_of, met_by
+from neverhit.books import Book, books_from, lean_mark, lean_sheet
+from neverhit.changed import finer, finer_point, mirrored, moved, shut_up, turned, turned_point
+from neverhit.check_judged import shows_judged
 from neverhit.checks import is_way
+from neverhit.guards import guards_of, needless, shots_past, stops_all, thinned
+from neverhit.judged import Lit, judged
 from neverhit.places import places_of, points_in, squares_at
 from neverhit.rays import bounces_of, met_first, stand_after, track_of, turned_back
 from neverhit.rooms import Room, open_sides, walls_of
@@ -74,6 +79,38 @@ class Speed(unittest.TestCase):
         for _ in range(2000):
             is_way((10 ** 12, 10 ** 12 - 1))
             is_way((10 ** 1000, 10 ** 1000 + 1))
+
+    def test_many_books_are_judged_and_checked(self):
+        ring, double = Room(RING), Room(RING, fine=2)
+        posts = guards_of(ring, (0, 1), (0, 2))
+        paper = judged(double, (0, 2), (0, 4), posts)
+        self.assertEqual(864, len(paper.books))
+        self.assertTrue(shows_judged(double, (0, 2), (0, 4), posts, paper))
+
+    def test_needless_posts_of_two_and_of_three_squares(self):
+        for many, most, points in ((2, 12, ((1, 1), (3, 1))), (3, 6, ((1, 0), (2, 2)))):
+            room = Room([(n, 0) for n in range(many)], fine=2)
+            double, ends = finer(room, 2), [finer_point(room, 2, point) for point in points]
+            posts = list(thinned(double, *ends, guards_of(room, *points)).posts)
+            left = [point for point in points_in(double) if point not in posts + ends]
+            more = posts + left[3::4][:most - len(posts)]
+            self.assertEqual(most, len(more))
+            self.assertTrue(stops_all(double, *ends, more))
+            needless(double, *ends, more), thinned(double, *ends, more), shots_past(double, *ends, more)
+
+    def test_far_ways_by_leaning(self):
+        room = Room(SLAB, fine=24)
+        posts = points_in(room)[100:160]
+        for way in ((10 ** 12, 10 ** 12 - 1), (999999999989, 500000000003), (832040, 514229), (1, 10 ** 12)):
+            for _ in range(10):
+                bands_of(room, way), end_of(room, 0, (1, 2), way), met_by(room, 0, (1, 2), way, posts)
+                shows_judged(room, (1, 2), (7, 9), posts, Lit(0, way, 5))
+
+    def test_leaning_sheets_of_400_squares(self):
+        row = Sheet([(n + 1) % 400 for n in range(400)], list(range(400)), [0] * 400)
+        for times in range(0, 10 ** 12, 10 ** 11):
+            lean_sheet(row, "a", times), lean_mark(row, 24, (7, 23, 1), "a", times)
+        self.assertEqual(720, len(books_from(Book(row, 1, [(0, 0, 0)], [], []))))
 
 
 if __name__ == "__main__":
