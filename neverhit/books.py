@@ -145,8 +145,29 @@ def led_by(sheet, fine, marks, word):
     return right, up, marks
 
 
+def numbered_anew(right, up, first):
+    """The squares in the order of their new numbers, from the one that becomes 0, and each one's new number."""
+    order = [first]
+    anew = [None] * len(right)
+    anew[first] = 0
+    at = 0
+    while at < len(order):
+        number = order[at]
+        for other in (right[number], up[number]):
+            if anew[other] is None:
+                anew[other] = len(order)
+                order.append(other)
+        at += 1
+    return order, anew
+
+
 def key_leant(key, fine, letter):
     """The key of the book that comes of the book of a key if it is leant once."""
+    return key_turned(key, fine, letter)[0]
+
+
+def key_turned(key, fine, letter):
+    """What key_leant tells, and the numbers that its squares, in their order, had in the book of the key."""
     right, up, corners, lamps, wishes, posts = key
     # this is asked so often that marks are led and numbered anew at once
     back = _turned(right if letter == "a" else up)
@@ -156,15 +177,16 @@ def key_leant(key, fine, letter):
         right = [right[number] for number in up]
     _, x, y = lamps[0]
     first = 0 if (x >= y if letter == "a" else y >= x) else back[0]
-    order, near = _numbered_anew(right, up, first)
+    order, near = numbered_anew(right, up, first)
     far = [near[number] for number in back]
     rows = _rows_anew(right, up, corners, order, near)
-    return (
+    turned = (
         *rows,
         tuple(_led_once(lamps, fine, letter, near, far)),
         tuple(sorted(_led_once(wishes, fine, letter, near, far))),
         tuple(sorted(_led_once(posts, fine, letter, near, far))),
     )
+    return turned, order
 
 
 def books_met(key, fine, until_shown=False):
@@ -280,7 +302,7 @@ def _marks_told(sheet, fine, value, least, most, part):
 
 def _key_of(right, up, corners, lamps, wishes, posts):
     """The key of a sheet with marks: all of them by the new numbers of the squares."""
-    order, anew = _numbered_anew(right, up, lamps[0][0])
+    order, anew = numbered_anew(right, up, lamps[0][0])
     rows = _rows_anew(right, up, corners, order, anew)
     return (
         *rows,
@@ -288,22 +310,6 @@ def _key_of(right, up, corners, lamps, wishes, posts):
         tuple(sorted([(anew[number], x, y) for number, x, y in wishes])),
         tuple(sorted([(anew[number], x, y) for number, x, y in posts])),
     )
-
-
-def _numbered_anew(right, up, first):
-    """The squares in the order of their new numbers, from the one that becomes 0, and each one's new number."""
-    order = [first]
-    anew = [None] * len(right)
-    anew[first] = 0
-    at = 0
-    while at < len(order):
-        number = order[at]
-        for other in (right[number], up[number]):
-            if anew[other] is None:
-                anew[other] = len(order)
-                order.append(other)
-        at += 1
-    return order, anew
 
 
 def _rows_anew(right, up, corners, order, anew):

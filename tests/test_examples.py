@@ -4,7 +4,7 @@ import pathlib
 import unittest
 
 MODULES = ("checks", "papers", "rooms", "places", "changed", "rays", "sheets", "books", "bands", "judged", "check_judged",
-           "guards", "errors")
+           "guards", "check_guards", "nearest", "maps", "folds", "errors")
 
 
 def names_of_all():
@@ -50,7 +50,8 @@ class Examples(unittest.TestCase):
             counts[section] = counts.get(section, 0) + 1
         self.assertEqual(
             {"checks": 2, "papers": 2, "rooms": 10, "places": 7, "changed": 7, "rays": 11, "sheets": 11, "books": 13,
-             "bands": 7, "judged": 7, "check_judged": 2, "guards": 8}, counts)
+             "bands": 7, "judged": 7, "check_judged": 2, "guards": 8, "check_guards": 1, "nearest": 9, "maps": 5,
+             "folds": 7}, counts)
 
 
 if __name__ == "__main__":

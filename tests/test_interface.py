@@ -37,6 +37,18 @@ FUNCTIONS = {
         "sixteen": "room lamp wish", "guards_of": "room lamp wish", "stops_all": "room lamp wish posts",
         "needless": "room lamp wish posts", "thinned": "room lamp wish posts", "shots_past": "room lamp wish posts",
     },
+    "check_guards": {"shows_thin": "room lamp wish posts value"},
+    "nearest": {
+        "rays_within": "room lamp wish posts far", "shortest": "room lamp wish posts=()", "homeward": "room lamp far",
+    },
+    "maps": {
+        "lit_from": "room lamp", "dark_from": "room lamp", "dark_pairs": "room", "lamps_for": "room wishes",
+        "see_table": "room",
+    },
+    "folds": {
+        "folds_of": "room ground", "folds_onto": "room ground", "point_down": "room ground rows square point",
+        "points_up": "room ground rows point", "ray_down": "room ground rows square place way",
+    },
     "bands": {
         "bands_of": "room way", "end_of": "room square place way", "met_by": "room square place way posts",
     },
@@ -49,12 +61,13 @@ CLASSES = {
     "books": {"Book": "sheet fine lamps wishes posts"},
     "judged": {"Lit": "square way steps", "Dark": "books"},
     "guards": {"Thin": "posts"},
+    "folds": {"Fold": "rows", "NoFold": ""},
 }
 METHODS = {
     "Paper": ("__init__", "__bool__", "__eq__"), "Denial": ("__init__", "__bool__", "__eq__"),
     "Room": ("__init__", "__eq__", "__str__", "read"), "Sheet": ("__init__", "__eq__", "__str__", "read"),
     "Track": ("__init__",), "Book": ("__init__", "__eq__"), "Lit": ("__init__",), "Dark": ("__init__",),
-    "Thin": ("__init__",),
+    "Thin": ("__init__",), "Fold": ("__init__",), "NoFold": ("__init__",),
 }
 
 

@@ -7,7 +7,7 @@ import re
 import unittest
 
 PACKAGE = pathlib.Path(__file__).parent.parent / "neverhit"
-LIBRARY = {"math": {"gcd"}}
+LIBRARY = {"math": {"gcd", "isqrt"}}
 BUILTINS = set(
     "len range enumerate zip min max sum abs sorted reversed int str bool list tuple dict set isinstance ord repr any"
     " all divmod ValueError super staticmethod".split())

@@ -11,10 +11,14 @@ from common import BLOCK, RING, ROW, SLAB
 from neverhit.bands import bands_of, end_of, met_by
 from neverhit.books import Book, books_from, lean_mark, lean_sheet
 from neverhit.changed import finer, finer_point, mirrored, moved, shut_up, turned, turned_point
+from neverhit.check_guards import shows_thin
 from neverhit.check_judged import shows_judged
 from neverhit.checks import is_way
+from neverhit.folds import folds_of, folds_onto, points_up
 from neverhit.guards import guards_of, needless, shots_past, stops_all, thinned
 from neverhit.judged import Lit, judged
+from neverhit.maps import dark_from, see_table
+from neverhit.nearest import homeward, rays_within, shortest
 from neverhit.places import places_of, points_in, squares_at
 from neverhit.rays import bounces_of, met_first, stand_after, track_of, turned_back
 from neverhit.rooms import Room, open_sides, walls_of
@@ -111,6 +115,36 @@ class Speed(unittest.TestCase):
         for times in range(0, 10 ** 12, 10 ** 11):
             lean_sheet(row, "a", times), lean_mark(row, 24, (7, 23, 1), "a", times)
         self.assertEqual(720, len(books_from(Book(row, 1, [(0, 0, 0)], [], []))))
+
+    def test_sights_and_the_shortest_of_them(self):
+        room = Room([(0, 0), (0, 1), (1, 1), (1, 2), (2, 2)])
+        rays_within(room, (0, 1), (2, 3), (), 2000)
+        for _ in range(5):
+            self.assertEqual(48, len(shortest(room, (0, 1), (2, 3)).books))
+            shortest(Room(SLAB, fine=4), (1, 1), (7, 15), [(x, 3) for x in range(9)])
+        sights = ((484, 0, (-1, 0), 22), (676, 0, (0, -1), 26))
+        self.assertEqual(sights, homeward(Room(SLAB, fine=24), (11, 13), 2000))
+
+    def test_maps(self):
+        for room in (Room([(0, 0), (1, 0), (2, 0)], fine=3), Room([(0, 0), (1, 0), (0, 1)], fine=3), Room(BLOCK, fine=2)):
+            table = see_table(room)
+            self.assertEqual(len(places_of(room)), len(table))
+        # more than 4,000 books come of some of these lamps
+        room = Room([(0, 0), (0, 1), (0, 2), (0, 3), (1, 1)], fine=2)
+        lamps = places_of(room)[:4]
+        self.assertEqual((), dark_from(room, lamps[0]) + dark_from(room, lamps[3]))
+
+    def test_folds(self):
+        row = Room(ROW, fine=24)
+        for _ in range(20):
+            self.assertEqual(4, len(folds_of(row, Room([(0, 0)], fine=24))))
+            rows = folds_onto(row, Room([(n, 0) for n in range(4)], fine=24)).rows
+            points_up(row, Room([(n, 0) for n in range(4)], fine=24), rows, (30, 7))
+
+    def test_thin_posts(self):
+        room = Room([(0, 0), (1, 0)], fine=2)
+        posts, double = guards_of(room, (1, 1), (3, 1)), finer(room, 2)
+        self.assertTrue(shows_thin(double, (2, 2), (6, 2), posts, thinned(double, (2, 2), (6, 2), posts)))
 
 
 if __name__ == "__main__":
