@@ -4,7 +4,7 @@ from math import gcd
 
 from neverhit.bands import passed_on_way
 from neverhit.books import LETTERS, Book, book_of, key_leant, shown_by
-from neverhit.checks import is_integer, is_point, is_row, is_within
+from neverhit.checks import is_integer, is_point, is_row
 from neverhit.errors import BadBook, BadSheet, Misfit
 from neverhit.judged import Dark, Lit
 from neverhit.places import posts_told, squares_at
@@ -24,7 +24,7 @@ def shows_judged(room, lamp, wish, posts, value):
 def shows_lit(room, lamp, wish, posts, parts):
     """Whether a square, a way and steps, any values, are those of a right Lit; all else is as it must be."""
     square, way, steps = parts
-    if not is_within(square, 0, room.many - 1) or square not in squares_at(room, lamp):
+    if not is_integer(square) or square not in squares_at(room, lamp):
         return False
     if not is_point(way) or gcd(way[0], way[1]) != 1 or not is_integer(steps):
         return False

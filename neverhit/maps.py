@@ -111,7 +111,7 @@ def _names_seen(first, fine, names):
             return list(passed)
         for letter in LETTERS:
             other, order = key_turned(key, fine, letter)
-            led = _names_led(named[key], fine, letter, key[0] if letter == "a" else key[1], order)
+            led = _names_led(named[key], key, fine, letter, order)
             if other in named:
                 _join(heads, named[other], led)
                 continue
@@ -126,11 +126,10 @@ def _names_seen(first, fine, names):
     return [name for name in range(len(heads)) if _head(heads, name) in seen]
 
 
-def _names_led(names, fine, letter, row, order):
-    """The names of all marks of a book that is leant once; order tells the old numbers of its squares.
-
-    row tells for each old square the one to its right, or above it, whose marks come to it if they leave theirs.
-    """
+def _names_led(names, key, fine, letter, order):
+    """The names of all marks of the book of a key if it is leant once; order tells the old numbers of its squares."""
+    # marks that leave their square come to the one to the left of it, or below it: so from the one to the right, or above
+    row = key[0] if letter == "a" else key[1]
     led = [None] * (fine * fine)
     for x in range(fine):
         for y in range(fine):

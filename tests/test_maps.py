@@ -1,18 +1,22 @@
 """Maps: what a lamp sees, the table of all places, dark pairs, lamps for wishes."""
 
+import random
 import unittest
 from unittest import mock
 
-from common import BENT, BLOCK, ELL, GATES, NO_POINTS, ODD, RING, SLAB, Checks, OwnList, grown_rooms
+import oracle
+from common import BENT, BLOCK, ELL, GATES, NO_POINTS, ODD, RING, SLAB, Checks, OwnList, grown_rooms, grown_sheets
 
-from neverhit.books import Book, books_from
+from neverhit.books import Book, books_from, books_met, key_turned, lean_mark, numbered_anew, shown_by
 from neverhit.errors import BadPlace, BadRoom, TooMany
 from neverhit.judged import judged
-from neverhit.maps import dark_from, dark_pairs, lamps_for, lit_from, see_table
+from neverhit.maps import (
+    _names_led, _names_seen, _pass_names, _points_seen, dark_from, dark_pairs, lamps_for, lit_from, see_table,
+)
 from neverhit.nearest import rays_within
 from neverhit.places import places_of
 from neverhit.rooms import Room
-from neverhit.sheets import marks_of, sheet_of
+from neverhit.sheets import Sheet, marks_of, onward, sheet_of
 
 LIKE_W = [(0, 0), (0, 1), (1, 1), (1, 2), (2, 2)]
 LIKE_U = [(0, 0), (0, 1), (1, 1), (1, 2), (2, 1)]
@@ -86,6 +90,13 @@ class FromALamp(Checks):
         self.assertEqual((((1, 0),), ()), (lit_from(Room(ELL), (0, 1)), dark_from(Room(ELL), (0, 1))))
         self.assertEqual(((), ((2, 3),)), (lit_from(lamp=[0, 1], room=Room(LIKE_W)), dark_from(Room(LIKE_W), [0, 1])))
 
+    def test_one_dark_place_among_many(self):
+        for squares, one, other in ((LIKE_W, (0, 2), (4, 6)), (LIKE_U, (0, 2), (4, 2))):
+            room = Room(squares, fine=2)
+            for lamp, wish in ((one, other), (other, one)):
+                self.assertEqual((wish,), dark_from(room, lamp))
+                self.assertEqual(tuple(p for p in places_of(room) if p not in (one, other)), lit_from(room, lamp))
+
     def test_errors(self):
         for call in (lit_from, dark_from):
             self.assert_bad(BadRoom, "room", ODD + (5,), lambda value: call(value, None))
@@ -142,6 +153,74 @@ class Lamps(Checks):
         wishes = [[0, 1]]
         lamps_for(Room(ELL), wishes)
         self.assertEqual([[0, 1]], wishes)
+
+
+class Names(Checks):
+
+    def test_names_go_with_their_marks(self):
+        """In each leaning of a book a name is told where lean_mark leads its mark, by the new numbers."""
+        for sheet in grown_sheets(101, 60):
+            for fine in (1, 2, 3):
+                free = [(n, x, y) for n in range(sheet.many) for x in range(fine) for y in range(fine)
+                        if (x, y) != (0, 0) or sheet.corners[n] == 0]
+                if not free:
+                    continue
+                key = Book(sheet, fine, free[-1:], [], []).key
+                told = Sheet(*key[:3])
+                names = [[(n, x, y) for n in range(sheet.many)] for x in range(fine) for y in range(fine)]
+                for letter in "ab":
+                    turned, order = key_turned(key, fine, letter)
+                    led = _names_led(names, key, fine, letter, order)
+                    for row in names:
+                        for mark in row:
+                            number, x, y = lean_mark(told, fine, mark, letter)
+                            self.assertEqual(mark, led[x * fine + y][order.index(number)])
+                    self.assertEqual(oracle.leant_key(key, fine, letter), turned)
+
+    def test_names_that_are_passed(self):
+        """They are those of all marks up to a corner, or to the lamp's own mark."""
+        for sheet in grown_sheets(104, 60):
+            for fine in (1, 2, 3):
+                names = [[(n, x, y) for n in range(sheet.many)] for x in range(fine) for y in range(fine)]
+                for own in [mark for row in names for mark in row if mark[1:] != (0, 0) or not sheet.corners[mark[0]]]:
+                    key = (sheet.right, sheet.up, sheet.corners, (own,), (), ())
+                    for side, way in (("east", (1, 0)), ("north", (0, 1))):
+                        wanted, mark = [], onward(sheet, fine, own, way)
+                        while mark is not None and mark not in wanted:
+                            wanted.append(mark)
+                            mark = onward(sheet, fine, mark, way)
+                        passed = {}
+                        _pass_names(key, fine, names, own, side, passed)
+                        self.assertEqual(wanted, list(passed))
+
+    def test_names_of_the_lamp_are_of_its_point(self):
+        for room in (Room(BLOCK, fine=3), HALL, Room([(0, 0)], fine=5)):
+            for lamp in places_of(room):
+                for at in range(len(marks_of(room, lamp))):
+                    def own(key, fine, names):
+                        number, x, y = key[3][at]
+                        return [names[x * fine + y][number]]
+                    with mock.patch("neverhit.maps._names_seen", own):
+                        self.assertEqual([lamp], list(_points_seen(room, lamp)))
+
+    def test_what_is_seen_of_any_sheet(self):
+        """Marks are seen exactly if, told as wishes, they are shown by some book."""
+        chance = random.Random(102)
+        for sheet in grown_sheets(103, 40):
+            for fine in (1, 2):
+                free = [(n, x, y) for n in range(sheet.many) for x in range(fine) for y in range(fine)
+                        if (x, y) != (0, 0) or sheet.corners[n] == 0]
+                if len(free) < 2 or sheet.many > 4:
+                    continue
+                lamp, *wishes = chance.sample(free, min(4, len(free)))
+                key = Book(sheet, fine, [lamp], [], []).key
+                order, _ = numbered_anew(sheet.right, sheet.up, lamp[0])
+                names = [[(n * fine + x) * fine + y for n in order] for x in range(fine) for y in range(fine)]
+                seen = _names_seen(key, fine, names)
+                for n, x, y in wishes:
+                    found, _ = books_met(Book(sheet, fine, [lamp], [(n, x, y)], []).key, fine, True)
+                    shown = shown_by(found[-1], fine) is not None
+                    self.assertIs(shown, (n * fine + x) * fine + y in seen)
 
 
 class TooManyOfThem(Checks):
