@@ -128,7 +128,7 @@ def _names_seen(first, fine, names):
 
 def _names_led(names, key, fine, letter, order):
     """The names of all marks of the book of a key if it is leant once; order tells the old numbers of its squares."""
-    # marks that leave their square come to the one to the left of it, or below it: so from the one to the right, or above
+    # marks that leave their square come to the one to its left, or below it: so from the one to the right, or above
     row = key[0] if letter == "a" else key[1]
     led = [None] * (fine * fine)
     for x in range(fine):
