@@ -24,7 +24,7 @@ from neverhit.rays import bounces_of, met_first, stand_after, track_of, turned_b
 from neverhit.rooms import Room, open_sides, walls_of
 from neverhit.sheets import Sheet, marks_of, onward, sheet_of
 
-SHORT = 5
+SHORT = 10
 LARGE = [Room(squares, (), 24) for squares in (RING, ROW, SLAB)]
 
 
