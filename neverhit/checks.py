@@ -36,3 +36,12 @@ def is_way(value):
         return False
     # of (0, 0) the greatest common divisor is 0, so that this bars it, too
     return gcd(p, q) == 1
+
+
+def is_same(value, told):
+    """Whether any value is what is told: an integer, or rows within rows of such; True and False are none of them."""
+    if not is_row(told):
+        return is_integer(value) and value == told
+    if not is_row(value) or len(value) != len(told):
+        return False
+    return all([is_same(item, other) for item, other in zip(value, told)])

@@ -30,13 +30,18 @@ def need_place(room, place, part):
 
 def posts_told(room, posts):
     """The posts that a value tells, ascending."""
-    if not is_row(posts) or len(posts) > MOST_POSTS:
-        raise BadPlace("posts")
-    if not all([is_point(post) and bool(_owners(room, post)) for post in posts]):
-        raise BadPlace("posts")
-    points = sorted(set([tuple(post) for post in posts]))
-    if len(points) < len(posts):
-        raise BadPlace("posts")
+    return points_told(room, posts, MOST_POSTS, "posts")
+
+
+def points_told(room, value, most, part):
+    """The unlike points of the room, at most so many, that the value of this part tells, ascending."""
+    if not is_row(value) or len(value) > most:
+        raise BadPlace(part)
+    if not all([is_point(point) and bool(_owners(room, point)) for point in value]):
+        raise BadPlace(part)
+    points = sorted(set([tuple(point) for point in value]))
+    if len(points) < len(value):
+        raise BadPlace(part)
     return tuple(points)
 
 

@@ -52,13 +52,10 @@ def bounces_of(room, square, place, way, steps):
     sheet, mark, sizes = beginning_of(room, square, place, way)
     letters = []
     for _ in range(steps):
-        passed = passed_by(sheet, room.fine, mark, sizes)
-        mark = mark_behind(room.fine, mark, sizes, passed)
+        mark, met = step_on(sheet, room.fine, mark, sizes)
+        letters.append(met)
         if is_end(sheet, mark):
-            # the two lines that meet at the corner throw nothing back; a straight way crosses no others by a step
-            letters.append(_letters_of(passed[:-2]))
             break
-        letters.append(_letters_of(passed))
     return "".join(letters)
 
 
@@ -107,6 +104,16 @@ def beginning_of(room, square, place, way):
     # in this copy the way leads right and up; a ray that goes straight along stays right of, or above, its line
     copy = (1 if way[0] < 0 else 0) + (2 if way[1] < 0 else 0)
     return sheet, mark_seen(room, sheet, square, copy, place), (abs(way[0]), abs(way[1]))
+
+
+def step_on(sheet, fine, mark, sizes):
+    """The mark one step on, and the letters of the walls that throw a ray back by this step."""
+    passed = passed_by(sheet, fine, mark, sizes)
+    end = mark_behind(fine, mark, sizes, passed)
+    if is_end(sheet, end):
+        # the two lines that meet at the corner throw nothing back; a straight way crosses no others by a step
+        return end, _letters_of(passed[:-2])
+    return end, _letters_of(passed)
 
 
 def _need_steps(steps):

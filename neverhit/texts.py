@@ -1,6 +1,6 @@
 """Reading texts item by item: the first item that cannot stand raises BadText."""
 
-from neverhit.checks import is_within
+from neverhit.checks import is_row, is_within
 from neverhit.errors import BadText
 
 MOST_DIGITS = 140
@@ -11,6 +11,11 @@ def items_of(text):
     if not isinstance(text, str):
         raise BadText(0, 0)
     return text.split(" ")
+
+
+def are_lines(value):
+    """Whether a value is a list of strings."""
+    return is_row(value) and all([isinstance(line, str) for line in value])
 
 
 def is_numeral(item):

@@ -3,9 +3,9 @@
 import unittest
 from math import gcd
 
-from common import NO_INTEGERS, NO_POINTS, OwnList
+from common import NO_INTEGERS, NO_POINTS, ODD, AlwaysEqual, OwnList
 
-from neverhit.checks import is_integer, is_point, is_way, is_within
+from neverhit.checks import is_integer, is_point, is_same, is_way, is_within
 
 FAR = 10 ** 12
 
@@ -68,6 +68,20 @@ class ChecksOfValues(unittest.TestCase):
             self.assertIs(False, is_way(value))
         self.assertIs(False, is_way((True, 0)))
         self.assertIs(True, is_way(value=(1, 0)))
+
+    def test_the_same_rows_of_integers(self):
+        for value in (0, 5, -10 ** 50, (), (1, 2), ((1, 2), (3, (4,))), (((),),)):
+            self.assertIs(True, is_same(value, value))
+        self.assertIs(True, is_same([1, [2, OwnList((3,))]], (1, (2, (3,)))))
+        self.assertIs(True, is_same((1, (2, (3,))), [1, [2, [3]]]))
+        for value, told in ((1, 2), ((1, 2), (2, 1)), ((1,), (1, 2)), ((1, 2, 3), (1, 2)), (1, (1,)), ((1,), 1), ((), ((),)),
+                            (True, 1), ((1, False), (1, 0)), ((1.0,), (1,)), ("1", 1), ("12", (1, 2)), (None, ())):
+            self.assertIs(False, is_same(value, told))
+        for value in ODD + (AlwaysEqual(),):
+            if value != []:
+                for told in (0, 1, (), (1,), (0, 1)):
+                    self.assertIs(False, is_same(value, told) and value not in ([], ()))
+                self.assertIs(False, is_same((1, value), (1, 2)))
 
 
 if __name__ == "__main__":

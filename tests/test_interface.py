@@ -49,6 +49,18 @@ FUNCTIONS = {
         "folds_of": "room ground", "folds_onto": "room ground", "point_down": "room ground rows square point",
         "points_up": "room ground rows point", "ray_down": "room ground rows square place way",
     },
+    "check_folds": {"shows_fold": "room ground value"},
+    "doors": {
+        "inner_sides": "room", "door_word": "room lamp wish posts sides", "door_table": "room lamp wish posts",
+        "all_doors": "room lamp wish posts", "darkened": "room lamp wish posts most",
+        "lightened": "room lamp wish posts most",
+    },
+    "check_doors": {
+        "shows_doors": "room lamp wish posts most value", "shows_opened": "room lamp wish posts most value",
+    },
+    "pictures": {
+        "plan_of": "room", "picture_of": "room lamp wish posts=()", "picture_of_track": "room square place way",
+    },
     "bands": {
         "bands_of": "room way", "end_of": "room square place way", "met_by": "room square place way posts",
     },
@@ -62,12 +74,16 @@ CLASSES = {
     "judged": {"Lit": "square way steps", "Dark": "books"},
     "guards": {"Thin": "posts"},
     "folds": {"Fold": "rows", "NoFold": ""},
+    "doors": {
+        "Doors": "sides", "NoDoors": "most", "Opened": "sides square way steps", "StillDark": "most",
+    },
 }
 METHODS = {
     "Paper": ("__init__", "__bool__", "__eq__"), "Denial": ("__init__", "__bool__", "__eq__"),
     "Room": ("__init__", "__eq__", "__str__", "read"), "Sheet": ("__init__", "__eq__", "__str__", "read"),
     "Track": ("__init__",), "Book": ("__init__", "__eq__"), "Lit": ("__init__",), "Dark": ("__init__",),
-    "Thin": ("__init__",), "Fold": ("__init__",), "NoFold": ("__init__",),
+    "Thin": ("__init__",), "Fold": ("__init__",), "NoFold": ("__init__",), "Doors": ("__init__",),
+    "NoDoors": ("__init__",), "Opened": ("__init__",), "StillDark": ("__init__",),
 }
 
 

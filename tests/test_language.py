@@ -7,12 +7,12 @@ import re
 import unittest
 
 PACKAGE = pathlib.Path(__file__).parent.parent / "neverhit"
-LIBRARY = {"math": {"gcd", "isqrt"}}
+LIBRARY = {"itertools": {"combinations"}, "math": {"gcd", "isqrt"}}
 BUILTINS = set(
     "len range enumerate zip min max sum abs sorted reversed int str bool list tuple dict set isinstance ord repr any"
     " all divmod ValueError super staticmethod".split())
 METHODS = set(
-    "append extend get index isascii isdigit items join pop split startswith".split())
+    "append count extend get index isascii isdigit items join pop split startswith".split())
 DUNDERS = {"__init__", "__eq__", "__str__", "__bool__"}
 BARRED_NAMES = set(
     "register mro elements open input law version_info with_traceback add_note attrgetter breakpoint builtins compile"

@@ -11,14 +11,18 @@ from common import BLOCK, RING, ROW, SLAB
 from neverhit.bands import bands_of, end_of, met_by
 from neverhit.books import Book, books_from, lean_mark, lean_sheet
 from neverhit.changed import finer, finer_point, mirrored, moved, shut_up, turned, turned_point
+from neverhit.check_doors import shows_doors, shows_opened
+from neverhit.check_folds import shows_fold
 from neverhit.check_guards import shows_thin
 from neverhit.check_judged import shows_judged
 from neverhit.checks import is_way
+from neverhit.doors import all_doors, darkened, door_table, lightened
 from neverhit.folds import folds_of, folds_onto, points_up
 from neverhit.guards import guards_of, needless, shots_past, stops_all, thinned
 from neverhit.judged import Lit, judged
 from neverhit.maps import dark_from, see_table
 from neverhit.nearest import homeward, rays_within, shortest
+from neverhit.pictures import picture_of, picture_of_track, plan_of
 from neverhit.places import places_of, points_in, squares_at
 from neverhit.rays import bounces_of, met_first, stand_after, track_of, turned_back
 from neverhit.rooms import Room, open_sides, walls_of
@@ -140,6 +144,24 @@ class Speed(unittest.TestCase):
             self.assertEqual(4, len(folds_of(row, Room([(0, 0)], fine=24))))
             rows = folds_onto(row, Room([(n, 0) for n in range(4)], fine=24)).rows
             points_up(row, Room([(n, 0) for n in range(4)], fine=24), rows, (30, 7))
+            self.assertTrue(shows_fold(row, Room([(0, 0)], fine=24), folds_onto(row, Room([(0, 0)], fine=24))))
+
+    def test_doors_of_four_squares(self):
+        block = Room(BLOCK, fine=2)
+        posts, told = guards_of(block, (2, 3), (1, 1)), (finer(block, 2), (4, 6), (2, 2))
+        self.assertEqual((11, 0, 0, 5), all_doors(*told, posts))
+        for some in (posts, posts[1:], posts[::2]):
+            door_table(*told, some)
+            for paper in (darkened(*told, some, 3), lightened(*told, some, 3)):
+                check = shows_doors if paper.word in ("doors", "nodoors") else shows_opened
+                self.assertTrue(check(*told, some, 3, paper))
+
+    def test_pictures(self):
+        stairs = Room([(n // 2, (n + 1) // 2) for n in range(8)], fine=24)
+        for room in LARGE + [stairs]:
+            points = points_in(room)
+            plan_of(room), picture_of(room, None, None, points[:60])
+            picture_of_track(room, 0, (room.squares[0][0] * 24 + 1, room.squares[0][1] * 24 + 1), (7, 5))
 
     def test_thin_posts(self):
         room = Room([(0, 0), (1, 0)], fine=2)
