@@ -5,7 +5,7 @@ import unittest
 
 MODULES = ("checks", "papers", "rooms", "places", "changed", "rays", "sheets", "books", "bands", "judged", "check_judged",
            "guards", "check_guards", "nearest", "maps", "folds", "check_folds", "doors", "check_doors", "pictures",
-           "errors")
+           "desks", "screens", "check_screens", "makers", "stories", "errors")
 
 
 def names_of_all():
@@ -52,7 +52,8 @@ class Examples(unittest.TestCase):
         self.assertEqual(
             {"checks": 2, "papers": 2, "rooms": 10, "places": 7, "changed": 7, "rays": 11, "sheets": 11, "books": 13,
              "bands": 7, "judged": 7, "check_judged": 2, "guards": 8, "check_guards": 1, "nearest": 9, "maps": 5,
-             "folds": 7, "check_folds": 2, "doors": 12, "check_doors": 2, "pictures": 10}, counts)
+             "folds": 7, "check_folds": 2, "doors": 12, "check_doors": 2, "pictures": 10, "desks": 11, "screens": 6,
+             "check_screens": 3, "makers": 9, "stories": 10}, counts)
 
 
 if __name__ == "__main__":

@@ -61,6 +61,17 @@ FUNCTIONS = {
     "pictures": {
         "plan_of": "room", "picture_of": "room lamp wish posts=()", "picture_of_track": "room square place way",
     },
+    "screens": {"screened": "room lamps wishes posts", "fewest_posts": "room lamps wishes points most"},
+    "check_screens": {
+        "shows_screened": "room lamps wishes posts value", "shows_fewest": "room lamps wishes points most value",
+    },
+    "makers": {
+        "rooms_of": "many", "alike": "one other", "least_room": "room", "dark_rooms": "many", "shut_lots": "room",
+    },
+    "stories": {
+        "story_of": "room square place way steps", "wrong_line": "lines", "story_in": "lines",
+        "shows_story": "room value",
+    },
     "bands": {
         "bands_of": "room way", "end_of": "room square place way", "met_by": "room square place way posts",
     },
@@ -77,6 +88,11 @@ CLASSES = {
     "doors": {
         "Doors": "sides", "NoDoors": "most", "Opened": "sides square way steps", "StillDark": "most",
     },
+    "desks": {"Desk": ""},
+    "screens": {
+        "Screened": "", "Through": "lamp wish square way steps", "Screen": "posts", "NoScreen": "most",
+    },
+    "makers": {"Alike": "is_mirrored quarters by", "Unlike": ""},
 }
 METHODS = {
     "Paper": ("__init__", "__bool__", "__eq__"), "Denial": ("__init__", "__bool__", "__eq__"),
@@ -84,6 +100,9 @@ METHODS = {
     "Track": ("__init__",), "Book": ("__init__", "__eq__"), "Lit": ("__init__",), "Dark": ("__init__",),
     "Thin": ("__init__",), "Fold": ("__init__",), "NoFold": ("__init__",), "Doors": ("__init__",),
     "NoDoors": ("__init__",), "Opened": ("__init__",), "StillDark": ("__init__",),
+    "Desk": ("__init__", "__eq__", "tell", "names", "room", "marks", "lines", "twin", "read"), "Screened": ("__init__",),
+    "Through": ("__init__",), "Screen": ("__init__",), "NoScreen": ("__init__",), "Alike": ("__init__",),
+    "Unlike": ("__init__",),
 }
 
 
@@ -113,6 +132,13 @@ class Interface(unittest.TestCase):
                     self.assertEqual(parameters, parameters_of(made))
                     for method in METHODS[name]:
                         self.assertIn(method, vars(made))
+
+    def test_methods_of_a_desk(self):
+        made = vars(importlib.import_module("neverhit.desks").Desk)
+        for name, parameters in (("tell", "self line"), ("names", "self"), ("room", "self name"), ("marks", "self name"),
+                                 ("lines", "self"), ("twin", "self")):
+            self.assertEqual(parameters, parameters_of(made[name]))
+        self.assertEqual("lines", parameters_of(made["read"].__func__))
 
 
 if __name__ == "__main__":

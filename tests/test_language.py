@@ -12,7 +12,7 @@ BUILTINS = set(
     "len range enumerate zip min max sum abs sorted reversed int str bool list tuple dict set isinstance ord repr any"
     " all divmod ValueError super staticmethod".split())
 METHODS = set(
-    "append count extend get index isascii isdigit items join pop split startswith".split())
+    "append count extend get index isalnum isascii isdigit items join lower pop split startswith".split())
 DUNDERS = {"__init__", "__eq__", "__str__", "__bool__"}
 BARRED_NAMES = set(
     "register mro elements open input law version_info with_traceback add_note attrgetter breakpoint builtins compile"
@@ -23,7 +23,7 @@ BARRED_WORDS = re.compile(
     r"|contextmanager|_wall")
 STATEMENTS = (
     ast.Assign, ast.AugAssign, ast.If, ast.While, ast.For, ast.Return, ast.Break, ast.Continue, ast.Raise, ast.Expr,
-    ast.Try, ast.FunctionDef, ast.ClassDef, ast.ImportFrom, ast.Pass,
+    ast.Try, ast.FunctionDef, ast.ClassDef, ast.ImportFrom, ast.Pass, ast.Delete,
 )
 
 
@@ -106,13 +106,13 @@ class Language(unittest.TestCase):
                     self.assertIsNone(other.value)
 
     def test_names(self):
+        own = {node.name for _, _, tree in files() for node in ast.walk(tree) if isinstance(node, ast.FunctionDef)}
         for path, text, tree in files():
             words = re.sub(r'"""(.|\n)*?"""|#.*', "", text)
             self.assertIsNone(BARRED_WORDS.search(words), path.name)
             self.assertNotIn("_wall", text)
             imported = {alias.name for node in imports_of(tree) for alias in node.names}
             classes = {node.name for node in tree.body if isinstance(node, ast.ClassDef)}
-            own = {node.name for node in ast.walk(tree) if isinstance(node, (ast.FunctionDef, ast.ClassDef))}
             for node in ast.walk(tree):
                 with self.subTest(file=path.name, line=getattr(node, "lineno", 0)):
                     names = []
@@ -148,6 +148,21 @@ class Language(unittest.TestCase):
             named = node.type.elts if isinstance(node.type, ast.Tuple) else [node.type]
             for error in named:
                 self.assertNotIn(error.id, dir(builtins))
+
+    def test_stars_stand_before_names_alone(self):
+        for node in self.every(ast.Call):
+            for argument in node.args:
+                if isinstance(argument, ast.Starred):
+                    self.assertIsInstance(argument.value, (ast.Name, ast.Attribute))
+
+    def test_of_caught_errors_only_fields_are_read(self):
+        for node in self.every(ast.FunctionDef):
+            caught = [handler.name for handler in ast.walk(node) if isinstance(handler, ast.ExceptHandler) and handler.name]
+            self.assertEqual(len(set(caught)), len(caught))
+            owners = [part.value for part in ast.walk(node) if isinstance(part, ast.Attribute)]
+            for part in ast.walk(node):
+                if isinstance(part, ast.Name) and part.id in caught:
+                    self.assertIn(part, owners)
 
     def test_sets_are_measured_or_sorted_on_the_spot(self):
         for path, _, tree in files():

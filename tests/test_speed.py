@@ -15,18 +15,23 @@ from neverhit.check_doors import shows_doors, shows_opened
 from neverhit.check_folds import shows_fold
 from neverhit.check_guards import shows_thin
 from neverhit.check_judged import shows_judged
+from neverhit.check_screens import shows_fewest, shows_screened
 from neverhit.checks import is_way
+from neverhit.desks import Desk
 from neverhit.doors import all_doors, darkened, door_table, lightened
 from neverhit.folds import folds_of, folds_onto, points_up
 from neverhit.guards import guards_of, needless, shots_past, stops_all, thinned
 from neverhit.judged import Lit, judged
+from neverhit.makers import alike, dark_rooms, least_room, rooms_of, shut_lots
 from neverhit.maps import dark_from, see_table
 from neverhit.nearest import homeward, rays_within, shortest
 from neverhit.pictures import picture_of, picture_of_track, plan_of
 from neverhit.places import places_of, points_in, squares_at
 from neverhit.rays import bounces_of, met_first, stand_after, track_of, turned_back
 from neverhit.rooms import Room, open_sides, walls_of
+from neverhit.screens import fewest_posts, screened
 from neverhit.sheets import Sheet, marks_of, onward, sheet_of
+from neverhit.stories import shows_story, story_in, story_of, wrong_line
 
 SHORT = 10
 LARGE = [Room(squares, (), 24) for squares in (RING, ROW, SLAB)]
@@ -162,6 +167,52 @@ class Speed(unittest.TestCase):
             points = points_in(room)
             plan_of(room), picture_of(room, None, None, points[:60])
             picture_of_track(room, 0, (room.squares[0][0] * 24 + 1, room.squares[0][1] * 24 + 1), (7, 5))
+
+    def test_desks(self):
+        slab = Room(SLAB, fine=4)
+        posts = points_in(slab)[20:80]
+        lines = [f"new s {slab}", "lamp s 1 1", "wish s 7 15"] + ["post s {} {}".format(*post) for post in posts]
+        lines += [f"copy s{n} s" for n in range(30)] + [f"bare s{n % 30}" for n in range(200 - len(lines) - 30)]
+        desk = Desk.read(lines)
+        self.assertEqual(200, len(desk.lines()))
+        for word in ["undo"] * 200 + ["redo"] * 200:
+            desk.tell(word)
+        self.assertTrue(desk == desk.twin())
+        self.assertTrue(desk == Desk.read(lines))
+
+    def test_screens_of_two_squares(self):
+        two = Room([(0, 0), (1, 0)], fine=2)
+        places = places_of(two)
+        for many, others, points in ((1, 2, 12), (2, 2, 6), (1, 1, 12), (6, 4, 1), (3, 2, 4)):
+            told = (two, places[:many], places[-others:])
+            left = [point for point in points_in(two) if point not in told[1] + told[2]][:points]
+            shows_screened(*told, left, screened(*told, left))
+            self.assertTrue(shows_fewest(*told, left, 3, fewest_posts(*told, left, 3)))
+        middle = [(2, 0), (2, 1), (2, 2), (1, 1), (3, 1), (0, 0), (1, 0), (3, 2), (4, 0), (4, 2), (1, 2), (3, 0)]
+        for _ in range(5):
+            self.assertEqual("screen", fewest_posts(two, [(0, 1)], [(4, 1)], middle, 3).word)
+
+    def test_makers(self):
+        self.assertEqual(2, len(dark_rooms(5)))
+        for room in LARGE:
+            for _ in range(5):
+                shut_lots(room), least_room(room), alike(room, turned(room, 3))
+        for _ in range(5):
+            self.assertEqual(35, len(rooms_of(6)))
+
+    def test_dark_rooms_of_six_squares(self):
+        self.assertEqual((), dark_rooms(6))
+
+    def test_stories(self):
+        for room in LARGE:
+            for way in ((1, 1), (499, 2), (-13, 487)):
+                square = squares_at(room, points_in(room)[30])[0]
+                told = story_of(room, square, points_in(room)[30], way, 400)
+                self.assertIsNone(wrong_line(told))
+                self.assertEqual(told, story_of(*story_in(told)))
+                self.assertTrue(shows_story(room, told))
+                self.assertEqual(len(told), wrong_line(told + ("on",)))
+        self.assertEqual(2, wrong_line([f"room {LARGE[0]}", "from 0 1 1 by 1000000000000 1", "to 1 1 met " + "E" * 19000]))
 
     def test_thin_posts(self):
         room = Room([(0, 0), (1, 0)], fine=2)

@@ -2,9 +2,9 @@
 
 import unittest
 
-from common import Checks
+from common import AlwaysEqual, Checks, OwnList
 
-from neverhit.texts import is_numeral, items_of, need_end, need_word, number_at
+from neverhit.texts import are_lines, is_numeral, items_of, need_end, need_word, number_at
 
 LONG = "9" * 140
 
@@ -38,6 +38,12 @@ class Texts(Checks):
         self.assertEqual([""], items_of(""))
         self.assertEqual(["a\tb\n"], items_of("a\tb\n"))
         self.assert_bad_text(0, items_of, None)
+
+    def test_lists_of_strings(self):
+        for value in ([], (), [""], ("a", "b"), OwnList(["a b", "c"])):
+            self.assertIs(True, are_lines(value))
+        for value in (None, True, 5, "a", b"a", ["a", None], ["a", b"b"], [["a"]], [1], {"a": "b"}, {"a"}, AlwaysEqual()):
+            self.assertIs(False, are_lines(value))
 
 
 if __name__ == "__main__":
