@@ -76,7 +76,7 @@ def _room_told(items, at):
 
 def _is_name(item):
     """Whether an item can be the name of a room."""
-    if not (1 <= len(item) <= LONGEST_NAME and item.isascii() and item.isalnum()):
+    if not (len(item) <= LONGEST_NAME and item.isascii() and item.isalnum()):
         return False
     return item == item.lower() and not item[0].isdigit()
 

@@ -7,7 +7,7 @@ from neverhit.errors import BadNumber, BadRoom, TooMany
 from neverhit.judged import judged
 from neverhit.papers import Denial, Paper
 from neverhit.places import is_place, need_apart, need_seeing, posts_told
-from neverhit.rooms import Room, hang_together, need_room, open_sides, side_told
+from neverhit.rooms import Room, hang_together, open_sides, side_told
 
 MOST_ASKED = 5
 MOST_CHANGED = 3

@@ -32,7 +32,8 @@ class Unlike(Denial):
 
 def rooms_of(many):
     """All rooms of so many squares without shut sides, fine 1, of alike ones the least one, ascending."""
-    _need_few(many)
+    if not is_within(many, 1, MOST_MADE):
+        raise BadNumber("many")
     made = [((0, 0),)]
     for _ in range(many - 1):
         made = sorted(set([_least(squares + (square,), ())[0] for squares in made for square in _beside(squares)]))
@@ -61,7 +62,6 @@ def least_room(room):
 
 def dark_rooms(many):
     """Those of rooms_of that have dark pairs, each with these."""
-    _need_few(many)
     told = [(room, dark_pairs(room)) for room in rooms_of(many)]
     return tuple([(room, pairs) for room, pairs in told if pairs])
 
@@ -72,12 +72,6 @@ def shut_lots(room):
     # to hang together so many squares need one side less than they are
     lots = lots_of(sides, len(sides) - room.many + 1)
     return tuple(sorted([lot for lot in lots if hang_together(room.squares, room.shut + lot)]))
-
-
-def _need_few(many):
-    """Nothing, if rooms of so many squares are made."""
-    if not is_within(many, 1, MOST_MADE):
-        raise BadNumber("many")
 
 
 def _beside(squares):

@@ -45,6 +45,8 @@ class CheckOfDoors(Checks):
                 self.assertIs(True, shows_opened(*told, most, paper))
                 self.assertIs(not paper, shows_opened(*told, most, StillDark(most)))
                 self.assertIs(False, shows_opened(*told, most, StillDark(most - 1)))
+                self.assertIs(False, shows_opened(*told, most, NoDoors(most)))
+                self.assertIs(False, shows_doors(*told, most, StillDark(most)))
 
     def test_two_sides(self):
         slab = Room([(i, j) for i in range(4) for j in range(2)])

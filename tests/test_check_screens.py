@@ -23,7 +23,8 @@ class CheckOfScreened(Checks):
 
     def test_by_hand(self):
         for value, told in (
-            (Screened(), False), (Through((0, 1), (2, 1), 0, (1, -1), 2), True), (Through([0, 1], [2, 1], 0, [1, 1], 2), False),
+            (Screened(), False), (Through((0, 1), (2, 1), 0, (1, -1), 2), True),
+            (Through([0, 1], [2, 1], 0, [1, -1], 2), True), (Through([0, 1], [2, 1], 0, [1, 1], 2), False),
             (Through((2, 1), (0, 1), 0, (-1, -1), 2), False), (Through((0, 1), (2, 1), 0, (1, -1), 1), False),
             (Through((0, 1), (2, 1), 1, (1, -1), 2), False), (Through((0, 1), (0, 1), 0, (1, -1), 4), False),
             (Through((0, 1), (1, 1), 0, (1, 0), 1), False), (NoScreen(1), False), (None, False),
@@ -68,8 +69,8 @@ class CheckOfScreened(Checks):
                 self.assertIs(False, shows_screened(*THROUGH, Through(*right[:at], value, *right[at + 1:])))
 
     def test_other_values(self):
-        for value in ODD + (AlwaysEqual(), Paper("screened"), Denial("through", *Through(1, 2, 3, 4, 5).parts), Lit(0, (1, -1), 2),
-                            Screen([])):
+        denial = Denial("through", (0, 1), (2, 1), 0, (1, -1), 2)
+        for value in ODD + (AlwaysEqual(), Paper("screened"), denial, Lit(0, (1, -1), 2), Screen([])):
             self.assertIs(False, shows_screened(*THROUGH, value))
             self.assertIs(False, shows_screened(ONE, [(0, 1)], [(2, 1)], HALF_WAY, value))
 
@@ -100,15 +101,26 @@ class CheckOfFewest(Checks):
             (Screen([(2, 0), (2, 1), (2, 2)]), True), (Screen([[2, 0], OwnList((2, 1)), (2, 2)]), True),
             (Screen([(2, 1), (2, 0), (2, 2)]), False), (Screen([(2, 0), (2, 1)]), False),
             (Screen([(1, 1), (2, 0), (2, 2)]), False), (Screen([(2, 0), (2, 0), (2, 2)]), False),
-            (Screen([(1, 1), (2, 0), (2, 1), (2, 2)]), False), (Screen([]), False), (NoScreen(3), False), (Screened(), False),
+            (Screen([(1, 1), (2, 0), (2, 1), (2, 2)]), False), (Screen([]), False), (NoScreen(3), False),
+            (Screened(), False),
         ):
             self.assertIs(told, shows_fewest(*FEW, value))
         self.assertIs(True, shows_fewest(*FEW[:4], 2, NoScreen(2)))
         self.assertIs(False, shows_fewest(*FEW[:4], 2, NoScreen(3)))
         self.assertIs(False, shows_fewest(*FEW[:4], 2, Screen([(2, 0), (2, 1), (2, 2)])))
-        self.assertIs(True, shows_fewest(value=Screen([]), most=3, points=[(1, 1)], wishes=[(2, 3)], lamps=[(0, 1)], room=LIKE_W))
-        # a lot of points that screens, but is not of the points
+        told = {"room": LIKE_W, "lamps": [(0, 1)], "wishes": [(2, 3)], "points": [(1, 1)], "most": 3}
+        self.assertIs(True, shows_fewest(value=Screen([]), **told))
+        lists = [[2, 2], [2, 1], OwnList((2, 0))]
+        self.assertIs(True, shows_fewest(*FEW[:3], lists, 3, Screen([(2, 0), (2, 1), (2, 2)])))
+        self.assertEqual([[2, 2], [2, 1], [2, 0]], lists)
+
+    def test_a_lot_of_other_points_that_screens(self):
         self.assertIs(False, shows_fewest(*FEW[:3], [(2, 0), (2, 1), (1, 1)], 3, Screen([(2, 0), (2, 1), (2, 2)])))
+        # as if each post screened
+        with mock.patch("neverhit.check_screens.fewest_posts", lambda *told: Screen([(2, 0)])):
+            with mock.patch("neverhit.check_screens.screened", lambda *told: Screened()):
+                self.assertIs(True, shows_fewest(*FEW, Screen([(2, 2)])))
+                self.assertIs(False, shows_fewest(*FEW, Screen([(3, 1)])))
 
     def test_any_lot_that_is_as_few_as_can_be(self):
         four = Room([(0, 0)], fine=4)

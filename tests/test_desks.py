@@ -88,6 +88,9 @@ class Deeds(Checks):
                              "drop hall 0 0", "marks hall", "bare hall", "bare hall", "marks hall")
         self.assertEqual(["4", "1", "2", "3", "- / - / 0 0 / 1 1 / 2 2", "2", "- / - / 1 1 / 2 2", "2", "0", "- / - / -"],
                          answers)
+        desk.tell("post hall 2 2"), desk.tell("post hall 0 0"), desk.tell("drop hall 2 2")
+        self.assertEqual((None, None, ((0, 0),)), desk.marks("hall"))
+        desk, _ = told("new hall " + HALL, "bare hall", "bare hall")
         # a deed that changes nothing stands, too
         self.assertEqual(("bare hall", "bare hall"), desk.lines()[-2:])
 
@@ -105,8 +108,9 @@ class Deeds(Checks):
         self.assertEqual(tuple(points[:3] + points[4:61]), desk.marks("s")[2])
 
     def test_guard(self):
-        for squares, fine, lamp, wish in ((BLOCK, 1, (1, 0), (1, 2)), (ELL, 2, (1, 1), (3, 1)), ([(0, 0)], 12, (1, 5), (7, 12))):
-            room = Room(squares, fine=fine)
+        for room, lamp, wish in (
+            (Room(BLOCK), (1, 0), (1, 2)), (Room(ELL, fine=2), (1, 1), (3, 1)), (Room([(0, 0)], fine=12), (1, 5), (7, 12)),
+        ):
             desk, answers = told("new a " + str(room), "lamp a {} {}".format(*lamp), "wish a {} {}".format(*wish),
                                  "post a 0 0", "guard a")
             guards = guards_of(room, lamp, wish)
@@ -119,6 +123,12 @@ class Deeds(Checks):
             self.assertEqual((lamp, wish, ((0, 0),)), desk.marks("a"))
             self.assertTrue(desk.room("a") == room)
         self.assertEqual("dark", hall("guard hall").tell("seen hall"))
+
+    def test_sixty_guards(self):
+        room = Room([(-4, 5), (-3, 3), (-3, 4), (-3, 5)], fine=4)
+        desk, answers = told("new a " + str(room), "lamp a -9 14", "wish a -9 17", "post a -8 14", "guard a", "marks a")
+        self.assertEqual("60", answers[-2])
+        self.assertEqual(60 + 2, len(answers[-1].split(" / ")))
 
     def test_guards_that_are_too_many(self):
         room = Room(SLAB, fine=5)
@@ -331,7 +341,8 @@ class Lines(Checks):
     def test_names(self):
         for name in ("a", "z9", "abcdefghijkl", "a12345678901", "hall0"):
             self.assertEqual("1", Desk().tell(f"new {name} fine 1 / 0 0"))
-        for name in ("", "9a", "0", "A", "aB", "abcdefghijklm", "a-b", "a.b", "a_", "\u00e4", "a\u0661", "\u00df", "a\n", "-"):
+        for name in ("", "9a", "0", "A", "aB", "abcdefghijklm", "a-b", "a.b", "a_", "\u00e4", "a\u0661", "\u00df", "a\n",
+                     "-"):
             self.bent(1, f"new {name} fine 1 / 0 0")
             self.bent(2, f"copy b {name}")
             self.bent(1, f"room {name}")

@@ -328,6 +328,14 @@ class FirstLots(Checks):
         for call in calls[:5]:
             self.assert_raises(Misfit, "posts", lambda: call((1, 2), [(2, 1), [1, 0]]))
             self.assert_raises(Misfit, "posts", lambda: call((1, 2), [[1, 2]]))
+        # nothing needs to be judged, as all falls apart
+        row = Room([(n, 0) for n in range(4)])
+        for posts, part in (([], "wish"), ([(1, 0)], "wish")):
+            self.assert_raises(Misfit, part, lambda: door_word(row, (1, 0), (1, 0), posts, inner_sides(row)[:1]))
+            self.assert_raises(Misfit, part, lambda: door_table(row, (1, 0), [1, 0], posts))
+        self.assert_raises(Misfit, "posts", lambda: door_word(row, (1, 0), (2, 0), [(1, 0)], inner_sides(row)[:1]))
+        self.assert_raises(Misfit, "posts", lambda: door_table(row, (1, 0), (2, 0), [(2, 0)]))
+        self.assertEqual(["apart"] * 3, [told for _, told in door_table(row, (1, 0), (2, 0), [])])
 
 
 if __name__ == "__main__":

@@ -20,12 +20,21 @@ SLIT = Room(BLOCK, [((1, 0), (1, 1))], 2)
 
 
 def all_turns(room):
-    """All eight rooms that come by mirroring, or not, and turning, with how they come; the room lies near 0."""
+    """All eight rooms that come by mirroring, or not, and turning, with how they come; the room lies near 0.
+
+    A square is led by its middle, told in half sides.
+    """
     found = []
     for is_mirrored in (False, True):
         for quarters in range(4):
-            other = turned(mirrored(room) if is_mirrored else room, quarters)
-            found.append((is_mirrored, quarters, other))
+            led = {}
+            for i, j in room.squares:
+                x, y = 2 * i + 1, 2 * j + 1
+                x = -x if is_mirrored else x
+                x, y = ((x, y), (-y, x), (-x, -y), (y, -x))[quarters]
+                led[(i, j)] = ((x - 1) // 2, (y - 1) // 2)
+            shut = [(led[one], led[other]) for one, other in room.shut]
+            found.append((is_mirrored, quarters, Room(list(led.values()), shut, room.fine)))
     return found
 
 
@@ -44,12 +53,16 @@ def first_alike(one, other):
 
 
 def hanging(many):
-    """All lots of so many squares of a box that hang together, least numbers 0."""
-    box = list(product(range(many), repeat=2))
+    """All lots of so many squares that hang together and fill a box, least numbers 0."""
     found = []
-    for squares in combinations(box, many):
-        if min(i for i, _ in squares) == 0 == min(j for _, j in squares) and hang_together(list(squares), []):
-            found.append(squares)
+    for wide, high in product(range(1, many + 1), repeat=2):
+        # each row and each column but the first one needs one more square
+        if wide + high - 1 <= many:
+            for squares in combinations(list(product(range(wide), range(high))), many):
+                sides = (min(i for i, _ in squares), max(i for i, _ in squares),
+                         min(j for _, j in squares), max(j for _, j in squares))
+                if sides == (0, wide - 1, 0, high - 1) and hang_together(squares, []):
+                    found.append(squares)
     return found
 
 
@@ -79,10 +92,12 @@ class AllRooms(Checks):
                 self.assertFalse(any([alike(one, other) for one, other in combinations(rooms, 2)]))
 
     def test_all_that_there_are(self):
-        # each lot of squares of a box that hangs together is alike to one of them
-        for many in range(1, 5):
+        # each lot of squares that hangs together is alike to one of them: so many are there, each in all its places
+        for many, fixed in zip(range(1, 7), (1, 2, 6, 19, 63, 216), strict=True):
             told = [room.squares for room in rooms_of(many)]
-            least = {min(home(room).squares for _, _, room in all_turns(Room(squares))) for squares in hanging(many)}
+            lots = hanging(many)
+            self.assertEqual(fixed, len(lots))
+            least = {min(home(room).squares for _, _, room in all_turns(Room(squares))) for squares in lots}
             self.assertEqual(sorted(least), told)
 
     def test_errors(self):

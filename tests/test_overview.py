@@ -31,7 +31,8 @@ def cases(seed, many):
     """So many rooms, each with a lamp, a wish and posts; some of them dark."""
     chance = random.Random(seed)
     rooms = [room for room in grown_rooms(seed, many * 3, (1, 1, 2)) if room.many < 6]
-    found = [(LIKE_W, (0, 1), (2, 3), ()), (LIKE_U, (2, 1), (0, 1), ()), (Room(BLOCK, [((0, 0), (0, 1))]), (1, 0), (1, 2), ((2, 1),))]
+    half = Room(BLOCK, [((0, 0), (0, 1))])
+    found = [(LIKE_W, (0, 1), (2, 3), ()), (LIKE_U, (2, 1), (0, 1), ()), (half, (1, 0), (1, 2), ((2, 1),))]
     for room in rooms + [Room(*BENT), Room(*GATES)]:
         places = places_of(room)
         if len(places) > 1 and len(found) < many:

@@ -153,6 +153,7 @@ class Points(Checks):
 
     def test_errors(self):
         self.assert_bad(BadRoom, "room", ODD + (5,), lambda value: picture_of(value, 5, 5, 5))
+        self.assert_bad(BadRoom, "room", ODD + (5,), lambda value: picture_of(value, None, None, 5))
         bad = [value for value in NO_POINTS if value is not None] + [(0, 0), (9, 9), (2, 2)]
         self.assert_bad(BadPlace, "lamp", bad, lambda value: picture_of(ONE, value, 5, 5))
         for lamp in (None, (1, 1)):

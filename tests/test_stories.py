@@ -157,8 +157,8 @@ class WrongLines(Checks):
         self.assertEqual(2, wrong_line([ENDED[0], "from 2 1 0 by -1 1"]))
 
     def test_of_a_step(self):
-        for line in ("", "to", "to 2 1 met", "to 2 1 met -", "to 2 1 met e", "to 2 1 met EE", "to 2 1 met E ", "to 2 1  met E",
-                     "to 1 2 met E", "to 2 1 met W", "to +2 1 met E", "to 02 1 met E", "To 2 1 met E", "to 2 1 by E",
+        for line in ("", "to", "to 2 1 met", "to 2 1 met -", "to 2 1 met e", "to 2 1 met EE", "to 2 1 met E ",
+                     "to 2 1  met E", "to 1 2 met E", "to 2 1 met W", "to +2 1 met E", "to 02 1 met E", "To 2 1 met E", "to 2 1 by E",
                      "corner", "round", "off", "to 2 1 met E\n"):
             self.assertEqual(2, wrong_line(TOLD[:2] + (line,) + TOLD[3:]), line)
             self.assertEqual(2, wrong_line(TOLD[:2] + (line,)), line)
