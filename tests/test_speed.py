@@ -33,7 +33,7 @@ from neverhit.screens import fewest_posts, screened
 from neverhit.sheets import Sheet, marks_of, onward, sheet_of
 from neverhit.stories import shows_story, story_in, story_of, wrong_line
 
-SHORT = 10
+SHORT = 30
 LARGE = [Room(squares, (), 24) for squares in (RING, ROW, SLAB)]
 
 
